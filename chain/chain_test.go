@@ -198,6 +198,15 @@ func TestErrors(t *testing.T) {
 			t.Errorf("Stamp(%d): %v, %v", ts, e, f)
 		}
 	}
+	for _, ts := range []int{1, api.MaxTS} {
+		if e := a.Stamp(h, ts); e != api.OK {
+			t.Errorf("Stamp(%d): %v", ts, e)
+		}
+		if n, is := a.Read(h); !is || n.V.TS != ts {
+			t.Errorf("Stamp(%d): %+v", ts, n)
+		}
+	}
+	a.Change(h, api.Version{Writer: 1, Value: "abc"})
 	for _, x := range []api.Handle{0, h + 1, h - 1, math.MaxUint64} {
 		if a.Change(x, api.Version{Writer: 1}) != api.ErrNone || a.Stamp(x, 1) != api.ErrNone || a.Cut(x) != api.ErrNone || a.Free(x) != api.ErrNone {
 			t.Errorf("of %x", x)
@@ -210,8 +219,8 @@ func TestErrors(t *testing.T) {
 
 // P17.1: an arena of such slots is full, when it is.
 func TestFull(t *testing.T) {
-	a := make1(t, 256)
-	most := api.PageSize / (27 + 256) * api.MaxPages
+	a := make1(t, 229) // slots of 256 bytes: one byte more, and a page has one less
+	most := api.PageSize / (27 + 229) * api.MaxPages
 	var last api.Handle
 	for range most {
 		last = add(t, a, api.Version{Writer: 1, Value: "v"}, 0)

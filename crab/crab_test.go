@@ -228,9 +228,13 @@ func TestTries(t *testing.T) {
 		for k, n := range names {
 			l.Try(n, 8)
 			held, path := l.Held(5), c.Path()
+			fence, fenced := c.Fence()
 			for range 2 {
 				if c.Step(x, l, 5) || !slices.Equal(l.Held(5), held) || !slices.Equal(c.Path(), path) {
 					t.Fatal("a try that fails does something")
+				}
+				if s, is := c.Fence(); s != fence || is != fenced {
+					t.Fatal("a try that fails has a fence:", s)
 				}
 			}
 			l.Drop(n, 8)
@@ -720,6 +724,47 @@ func TestCopies(t *testing.T) {
 			if c.Path()[0] == -5 {
 				t.Fatal("what was told is kept")
 			}
+		}
+	}
+}
+
+// P15.2, P15.7: it lets go of nothing that it does not hold, though its task does.
+func TestNotItsOwn(t *testing.T) {
+	x, l := make1(t, 3, "b", "d", "f", "h"), latch.New()
+	c := crab.New(fork.Look, "h")
+	arrive(t, c, x, l, 1)
+	l.Try(word(), 1)
+	l.Try(node(x.Root()), 1)
+	c.Loose(l, 1)
+	c.Leave(l, 1)
+	if got := l.Held(1); !slices.Equal(got, []latch.Name{word(), node(x.Root())}) {
+		t.Error("it let go of what is not its own:", got)
+	}
+}
+
+// P15.2: copies that hold many nodes go down to unlike ones.
+func TestCopiesGoDown(t *testing.T) {
+	for deep := 1; deep < 9; deep++ {
+		x, l := make1(t, 3), latch.New()
+		full := func(kid int) fork.Node {
+			return fork.Node{Keys: []string{"b", "c", "d"}, Kids: []int{kid, 50, 51, 52}}
+		}
+		for id := 1; id < 10; id++ { // each one's first kid is the next one; all are full
+			x.Set(id, full(id+1))
+			x.Make(full(id + 2))
+		}
+		c := crab.New(fork.Insert, "a")
+		for range 1 + deep {
+			c.Step(x, l, 1)
+		}
+		d, y, m := c.Copy(), x.Copy(), l.Copy()
+		other := y.Make(full(60))
+		y.Set(deep, full(other))
+		c.Step(x, l, 1)
+		d.Step(y, m, 1)
+		a, b := c.Path(), d.Path()
+		if len(a) != deep+1 || len(b) != deep+1 || a[deep] != deep+1 || b[deep] != other || !slices.Equal(a[:deep], b[:deep]) {
+			t.Fatalf("%v, %v, behind %d", a, b, deep)
 		}
 	}
 }

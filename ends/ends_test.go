@@ -205,10 +205,13 @@ func same(a, b api.Answer) bool {
 func TestHead(t *testing.T) {
 	s := make1(t, 1)
 	txs := &call.Txs{}
-	for range 3 {
+	for n := range 3 {
 		do(t, s, 0, api.Call{Kind: api.Begin}, txs)
+		if n == 1 { // so that snapshots are unlike ones
+			put(t, s, 2, "k", false)
+			do(t, s, 0, api.Call{Kind: api.Commit, Tx: 2}, txs)
+		}
 	}
-	do(t, s, 0, api.Call{Kind: api.Commit, Tx: 2}, txs)
 	long := strings.Repeat("x", 4)
 	for k, x := range []struct {
 		c    api.Call
@@ -361,6 +364,42 @@ func TestAbortOfOne(t *testing.T) {
 			if _, marked, _ := s.Log.Under(0); marked != (k >= 1) {
 				t.Errorf("home %d, the step %d: marked %v", home, k+1, marked)
 			}
+		}
+	}
+}
+
+// P21.2: a key of which something is kept is not to be taken out: nobody goes down for it.
+func TestAbortSteps(t *testing.T) {
+	for _, home := range []uint8{1, 2} {
+		for n := 1; n <= 3; n++ { // versions behind the intent
+			s, txs := make1(t, home), &call.Txs{}
+			for k := 1; k <= n+1; k++ {
+				do(t, s, 0, api.Call{Kind: api.Begin}, txs)
+				put(t, s, k, "k", false)
+				if k <= n {
+					do(t, s, 0, api.Call{Kind: api.Commit, Tx: k}, txs)
+				}
+			}
+			// the head, the table; the root word, the leaf, the latch; the anchor, the versions; two for the Off; the table; the table
+			want := 2 + 3 + 1 + (n + 1) + 2 + 1 + 1
+			if _, steps := do(t, s, 0, api.Call{Kind: api.Abort, Tx: n + 1}, txs); steps != want {
+				t.Errorf("home %d, %d versions: %d steps, not %d", home, n, steps, want)
+			}
+		}
+		s, txs := make1(t, home), &call.Txs{} // another one's intent is there by now
+		do(t, s, 0, api.Call{Kind: api.Begin}, txs)
+		put(t, s, 1, "k", false)
+		s.Log.Invoke(0)
+		m := ends.New(api.Call{Kind: api.Abort, Tx: 1}, txs)
+		m.Step(s, 0)
+		m.Step(s, 0)
+		do(t, s, 1, api.Call{Kind: api.Begin}, &call.Txs{})
+		p := newPutter(2, "k", false)
+		for !p.Step(s, 1) {
+		}
+		// the root word, the leaf, the latch; the anchor, the version; the table; the table
+		if steps := run(t, s, 0, m); steps != 3+2+1+1 || s.A.Used()+s.B.Used() != 1 {
+			t.Errorf("home %d, another one's: %d steps", home, steps)
 		}
 	}
 }
@@ -526,7 +565,13 @@ func TestRemove(t *testing.T) {
 				t.Errorf("home %d: %q may not be taken out", home, key)
 			}
 		}
+		do(t, s, 0, api.Call{Kind: api.Begin}, txs)
+		put(t, s, 5, "once", false)
+		do(t, s, 0, api.Call{Kind: api.Commit, Tx: 5}, txs)
 		was := told(s)
+		if run(t, s, 1, ends.NewRemove("once")); told(s) != was {
+			t.Errorf("home %d: one version is to stay", home)
+		}
 		if n := run(t, s, 1, ends.NewRemove("zz")); n != 1+s.Tree.Levels() || told(s) != was {
 			t.Error("a key that is not there:", n)
 		}

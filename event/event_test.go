@@ -446,6 +446,36 @@ func TestCopies(t *testing.T) {
 	}
 }
 
+// P6.6: of however many events, both go their own way.
+func TestCopiesOfAll(t *testing.T) {
+	r := rand.New(rand.NewSource(9))
+	for n := range 40 {
+		l := history(r, 2, n+4)
+		a := make1(t, 2)
+		for _, e := range l[:n] {
+			add(a, e)
+		}
+		b := a.Copy()
+		if !equal(a.Events(), b.Events()) {
+			t.Fatal("the copy tells something else")
+		}
+		other := slices.DeleteFunc(history(r, 2, 20), func(e api.Event) bool { return e.Task == 0 })
+		var more []api.Event
+		for k, e := range l[n:] {
+			add(a, e)
+			if k < len(other) && add(b, other[k]) == api.OK {
+				more = append(more, b.Events()[n+len(more)])
+			}
+		}
+		if got := a.Events(); !equal(got, l) {
+			t.Fatalf("%v, not %v", got, l)
+		}
+		if got := b.Events(); !equal(got[:n], l[:n]) || !equal(got[n:], more) {
+			t.Fatalf("the copy: %v, not %v, %v", got, l[:n], more)
+		}
+	}
+}
+
 // R1: of nil.
 func TestNil(t *testing.T) {
 	var r *event.Recorder

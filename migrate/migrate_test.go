@@ -425,6 +425,37 @@ func TestHolds(t *testing.T) {
 	d.check()
 }
 
+// P26.3: a Put that judged its new key ahead of the mark, and puts it in behind it, in the old engine: the walk comes by, as the leaf was held.
+func TestJudgedAhead(t *testing.T) {
+	for _, home := range []uint8{1, 2} {
+		d := newDriver(t, config(), home)
+		d.do(0, api.Call{Kind: api.Begin})
+		d.do(0, api.Call{Kind: api.Put, Tx: 1, Key: "a", Value: "1"})
+		d.invoke(0, api.Call{Kind: api.Put, Tx: 1, Key: "k", Value: "2"})
+		for d.tasks[0].mark == nil {
+			d.step(0)
+		}
+		d.invoke(1, api.Call{Kind: api.Migrate, Engine: 3 - home})
+		for range 30 {
+			d.step(1)
+		}
+		if d.tasks[1].mark == nil || d.tasks[1].m == nil {
+			t.Fatal("it is not under way behind its mark")
+		}
+		for d.tasks[0].m != nil {
+			d.step(0)
+			d.step(1)
+		}
+		for d.tasks[1].m != nil {
+			d.step(1)
+		}
+		if !d.ferried(3 - home) {
+			t.Errorf("home %d: %d, %d slots", home, d.s.A.Used(), d.s.B.Used())
+		}
+		d.check()
+	}
+}
+
 // P26.1: what is refused; of another Kind; of nil.
 func TestNothing(t *testing.T) {
 	d := newDriver(t, config(), 1)

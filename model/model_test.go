@@ -593,6 +593,33 @@ func TestApart(t *testing.T) {
 	}
 }
 
+// P16.8: of however many versions of a key, both go their own way.
+func TestCopiesOfVersions(t *testing.T) {
+	c := config()
+	c.Depth, c.TS = api.MaxDepth, 100
+	for n := range c.Depth - 1 {
+		m := make1(t, c)
+		tx := 0
+		write := func(m *model.Model, tx int, value string) {
+			m.Do(0, api.Call{Kind: api.Begin})
+			m.Do(0, api.Call{Kind: api.Put, Tx: tx, Key: "a", Value: value})
+			m.Do(0, api.Call{Kind: api.Commit, Tx: tx})
+		}
+		for range n {
+			tx++
+			write(m, tx, "v")
+		}
+		k := m.Copy()
+		write(m, tx+1, "m")
+		before := told(m)
+		write(k, tx+1, "k")
+		write(k, tx+2, "kk")
+		if told(m) != before || m.Versions("a")[0].Value != "m" || k.Versions("a")[1].Value != "k" {
+			t.Fatalf("%d versions: %v, %v", n, m.Versions("a"), k.Versions("a"))
+		}
+	}
+}
+
 // P16.1: a config that may not be; and of nil.
 func TestNewAndNil(t *testing.T) {
 	for _, c := range []api.Config{{}, {Tasks: 7, Active: 1, Keys: 1, Depth: 2, TS: 1, KeyLen: 1, Fan: 3}, {Tasks: 1, Active: 1, Keys: 1, Depth: 1, TS: 1, KeyLen: 1, Fan: 3}} {

@@ -527,6 +527,44 @@ func TestManyWays(t *testing.T) {
 	}
 }
 
+// P28.2: rows of Marks that come to the same versions, but to unlike snapshots, or other transactions' states.
+func TestUnlikeSnapshots(t *testing.T) {
+	c := api.Config{Tasks: 2, Active: 2, Keys: 2, Depth: 3, TS: 5, KeyLen: 1, ValLen: 1, Fan: 3}
+	writer := []api.Call{{Kind: api.Begin}, {Kind: api.Put, Tx: 1, Key: "a", Value: "1"}, {Kind: api.Commit, Tx: 1}}
+	reader := []api.Call{{Kind: api.Begin}, {Kind: api.Get, Tx: 1, Key: "a"}}
+	found, full := api.Answer{Found: true, Value: "1"}, api.Answer{Err: api.Full}
+	for w := range 2 {
+		r := 1 - w
+		p := [][]api.Call{writer, reader}
+		if w == 1 {
+			p = [][]api.Call{reader, writer}
+		}
+		event := func(what uint8, task, call int, a api.Answer) api.Event {
+			return api.Event{What: what, Task: task, Call: call, Answer: a}
+		}
+		history := func(begun, read api.Answer) []api.Event {
+			none := api.Answer{}
+			l := []api.Event{event(1, w, 0, none), event(3, w, 0, none), event(1, w, 1, none), event(3, w, 1, none)}
+			l = append(l, event(1, w, 2, none), event(1, r, 0, none), event(3, w, 2, none), event(3, r, 0, begun))
+			return append(l, event(1, r, 1, none), event(3, r, 1, read))
+		}
+		for k, x := range []struct {
+			active      int
+			begun, read api.Answer
+			want        bool
+		}{
+			{2, api.Answer{}, found, true}, {2, api.Answer{}, api.Answer{}, true}, {2, api.Answer{}, api.Answer{Found: true, Value: "2"}, false},
+			{1, api.Answer{}, found, true}, {1, api.Answer{}, api.Answer{}, false},
+			{1, full, api.Answer{Err: api.NoTxn}, true}, {1, full, found, false}, {2, full, api.Answer{Err: api.NoTxn}, false},
+		} {
+			c.Active = x.active
+			if is, e := replay.Fits(c, p, history(x.begun, x.read)); is != x.want || e != api.OK {
+				t.Errorf("the writer %d, %d: %v, %v", w, k, is, e)
+			}
+		}
+	}
+}
+
 // R1: what is handed in stays; what is told shares no memory.
 func TestApart(t *testing.T) {
 	c := api.Config{Tasks: 1, Active: 1, Keys: 2, Depth: 2, TS: 5, KeyLen: 1, ValLen: 1, Fan: 3}

@@ -969,6 +969,28 @@ func TestNil(t *testing.T) {
 	}
 }
 
+// R1: of a shop without parts: nothing is there, and nothing can be done.
+func TestNoParts(t *testing.T) {
+	s := &row.Shop{}
+	if _, e := s.Make(1, 0); e == api.OK || s.Set(1, 1, 0) == api.OK || s.Gone(1) == api.OK || s.Copy() == nil {
+		t.Error("of no arena")
+	}
+	if r, n := collect(t, s, 1); n != 1 || len(r.Slots) != 0 {
+		t.Error(r, n)
+	}
+	if _, is, n := see(t, s, 1, reader{1, 0, view.View{}}); is || n != 1 {
+		t.Error("seen:", n)
+	}
+	for _, engine := range []uint8{1, 2} {
+		r := row.Row{Anchor: 1, Engine: engine, Slots: []api.Handle{1, 2}, Versions: []api.Version{v(2, "b"), v(1, "a")}}
+		off, _ := row.Off(r)
+		sweep, _ := row.Sweep(r, 1)
+		for _, p := range []*row.Plan{off, sweep, row.Put(r, v(3, "c"), true), row.Put(r, v(3, "c"), false), row.Move(r, 2, 3-engine)} {
+			run(t, s, p)
+		}
+	}
+}
+
 func TestExamples(t *testing.T) {
 	s := make1(t, 1)
 	h := anchor(t, s, 1, 0)

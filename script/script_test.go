@@ -54,8 +54,15 @@ func some(r *rand.Rand, calls, picks int) script.Script {
 	for range x.C.Tasks - r.Intn(20)/19 {
 		x.Programs = append(x.Programs, program(r, r.Intn(calls+1)))
 	}
-	for range r.Intn(picks + 1) {
-		x.Picks = append(x.Picks, r.Intn(x.C.Tasks))
+	long := 1 // how often one behind the other a task is picked, at most
+	if r.Intn(2) == 0 {
+		long += r.Intn(30)
+	}
+	for n := r.Intn(picks + 1); len(x.Picks) < n; {
+		task := r.Intn(x.C.Tasks)
+		for range 1 + r.Intn(long) {
+			x.Picks = append(x.Picks, task)
+		}
 	}
 	return x
 }
@@ -450,8 +457,8 @@ func TestFirstTasks(t *testing.T) {
 	if _, is := s.Under(1); !is {
 		t.Error("the second one was picked")
 	}
-	if n := script.Calm(s, 2, 100); n != 3 || s.Left(1) != 1 {
-		t.Error("of both:", n)
+	if n := script.Calm(s, math.MaxInt, 100); n != 3 || s.Left(1) != 1 {
+		t.Error("of both, and more than there are:", n)
 	}
 	if n := script.Finish(s, 9, 100); n != 8 || s.Left(1) != 0 {
 		t.Error("of more than there are:", n)

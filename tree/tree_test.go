@@ -158,6 +158,12 @@ func (o *world) check(t *testing.T, x *tree.Tree) {
 			t.Fatalf("the node %d: %v, %v, not %v", id, n, is, want)
 		}
 	}
+	again := x.Copy()
+	for id, n := range nodes { // what is put in its own place changes nothing
+		if e := again.Set(id, n); e != api.OK || !again.Legal() {
+			t.Fatalf("the node %d once more: %v, legal %v", id, e, again.Legal())
+		}
+	}
 	slices.Sort(ids)
 	if got := x.Nodes(); !slices.Equal(got, ids) {
 		t.Fatalf("Nodes: %v, not %v", got, ids)
@@ -417,6 +423,51 @@ func TestLegalOnes(t *testing.T) {
 	x.Delete("b")
 	if n, is := x.Node(1); !x.Legal() || x.Root() != 1 || !slices.Equal(x.Nodes(), []int{1}) || !is || !fork.Same(n, leaf()) {
 		t.Error("all nodes would be without kids:", x.Root(), x.Nodes())
+	}
+}
+
+// P14.3: whether it is legal is told by what it is now, whatever it was.
+func TestLegalNow(t *testing.T) {
+	make2 := func() *tree.Tree {
+		x := grown(t, 3, leaf("a"), leaf("c"), inner([]int{1, 2}, "b"))
+		if !x.Legal() || x.Levels() != 2 || !slices.Equal(x.Keys(), []string{"a", "c"}) {
+			t.Fatal(x.Legal(), x.Levels(), x.Keys())
+		}
+		return x
+	}
+	not := func(x *tree.Tree) {
+		t.Helper()
+		if _, is := x.Find("a"); is || x.Legal() || x.Levels() != 0 || x.Insert("e", 1) != api.ErrForm || x.Delete("a") != api.ErrForm {
+			t.Error("it is legal no more")
+		}
+		if _, _, is := x.Next(""); is || len(x.Keys()) != 0 {
+			t.Error("it is legal no more")
+		}
+	}
+	x := make2()
+	x.Set(1, leaf())
+	not(x)
+	x.Set(1, leaf("a"))
+	x.Set(2, leaf("b"))
+	if !x.Legal() || !slices.Equal(x.Keys(), []string{"a", "b"}) {
+		t.Error("it is legal again")
+	}
+	x = make2()
+	id := x.Make(leaf("z"))
+	not(x)
+	x.Gone(id)
+	if !x.Legal() || x.Insert("e", 1) != api.OK {
+		t.Error("it is legal again")
+	}
+	x = make2()
+	x.Gone(2)
+	not(x)
+	x = make2()
+	x.SetRoot(1)
+	not(x)
+	x.SetRoot(3)
+	if !x.Legal() {
+		t.Error("it is legal again")
 	}
 }
 

@@ -373,9 +373,9 @@ func TestErrors(t *testing.T) {
 
 // P18.1: the longest values; and an arena of such slots is full, when it is.
 func TestFull(t *testing.T) {
-	u := make1(t, 256)
-	most := api.PageSize / (32 + 256) * api.MaxPages
-	long, other := strings.Repeat("x", 256), strings.Repeat("y", 256)
+	u := make1(t, 224) // slots of 256 bytes: one byte more, and a page has one less
+	most := api.PageSize / (32 + 224) * api.MaxPages
+	long, other := strings.Repeat("x", 224), strings.Repeat("y", 224)
 	k := save(t, u, v(1, long), 0, v(2, other))
 	if x, _, is := u.Record(k, v(9, other)); !is || x != v(1, long) {
 		t.Error("the longest delta:", is)
@@ -432,6 +432,41 @@ func TestApart(t *testing.T) {
 		}
 		if l := u.Segment(2); len(l) != 2 || l[0] != k2 {
 			t.Error(l)
+		}
+	}
+}
+
+// P18.7: of however many records of a segment, both go their own way.
+func TestCopiesOfSegments(t *testing.T) {
+	for n := 1; n < 9; n++ {
+		for turn := range 2 {
+			u := make1(t, 4)
+			var l []api.Handle
+			for range n {
+				l = append(l, save(t, u, v(1, ""), 0, v(2, "")))
+			}
+			b := u.Copy()
+			if turn == 1 {
+				u, b = b, u
+			}
+			u.Free(l[n/2])
+			if got := b.Segment(2); !slices.Equal(got, l) {
+				t.Fatalf("%d records: %v, not %v", n, got, l)
+			}
+			u, b = b, u.Copy()
+			x, y := save(t, u, v(1, "a"), 0, v(2, "a")), save(t, b, v(1, "b"), 0, v(2, "b"))
+			if got := u.Segment(2); !slices.Equal(got, append(slices.Clone(l), x)) {
+				t.Fatalf("%d records: %v, not %v, %v", n, got, l, x)
+			}
+			if got := b.Segment(2); len(got) != n || got[n-1] != y {
+				t.Fatalf("%d records: %v, not %v behind", n, got, y)
+			}
+			c := u.Copy()
+			row(t, c, v(9, ""), 0) // so that the next handle is another one
+			z, o := save(t, u, v(3, ""), 0, v(2, "")), save(t, c, v(4, "c"), 0, v(2, "c"))
+			if a, b := u.Segment(2), c.Segment(2); z == o || len(a) != n+2 || a[n+1] != z || len(b) != n+2 || b[n+1] != o {
+				t.Fatalf("%d records: %v, %v, not %v, %v behind", n, a, b, z, o)
+			}
 		}
 	}
 }

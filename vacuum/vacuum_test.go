@@ -309,6 +309,10 @@ func TestSteps(t *testing.T) {
 		} else {
 			check("four versions", 6+key(4, 4))
 		}
+		d.do(2, api.Call{Kind: api.Begin}) // an intent, and a version: the key is not to be taken out
+		d.do(2, api.Call{Kind: api.Put, Tx: d.tasks[2].txs.Len(), Key: "a"})
+		check("an intent", 6+key(2, 0))
+		d.do(2, api.Call{Kind: api.Abort, Tx: d.tasks[2].txs.Len()})
 		d.writes("a", 1, true)
 		out := 7 // the root word, the leaf, the latch, the anchor, the table, the leaf, the anchor
 		if undo {
