@@ -9,75 +9,23 @@ import (
 
 	"ferryman/api"
 	"ferryman/axioms"
+	"ferryman/compile"
 	"ferryman/event"
-	"ferryman/model"
 	"ferryman/replay"
 	"ferryman/store"
+	"ferryman/turns"
 )
 
+// configs are such by which transactions meet one another.
 func configs(r *rand.Rand) api.Config {
-	return api.Config{Tasks: 1 + r.Intn(4), Active: 1 + r.Intn(4), Keys: 2 + r.Intn(4), Depth: 2 + r.Intn(3), TS: 1 + r.Intn(9), KeyLen: 1, ValLen: 1, Fan: 3}
-}
-
-// program is some program.
-func program(r *rand.Rand, n int) []api.Call {
-	var l []api.Call
-	tx := 0
-	for range n {
-		x := api.Call{Kind: []uint8{1, 1, 2, 2, 2, 3, 3, 3, 3, 4, 4, 5, 5, 6, 6, 6, 7, 8, 9, 0}[r.Intn(20)], Tx: max(1, tx-r.Intn(8)/7), Key: string(rune('a' + r.Intn(4))), Value: string(rune('0' + r.Intn(9))), Limit: r.Intn(5), Engine: uint8(1 + r.Intn(2))}
-		if tx == 0 {
-			x.Kind = api.Begin
-		}
-		if x.Kind == api.Begin {
-			tx++
-		}
-		if x.Kind == api.Scan && r.Intn(2) == 0 {
-			x.Key = ""
-		}
-		if r.Intn(3) == 0 {
-			x.End = string(rune('a' + r.Intn(5)))
-		}
-		l = append(l, x)
-	}
-	return l
-}
-
-func programs(r *rand.Rand, c api.Config, n int) [][]api.Call {
-	var l [][]api.Call
-	for range c.Tasks {
-		l = append(l, program(r, r.Intn(n+1)))
-	}
-	return l
+	c := turns.Config(r.Intn)
+	c.Keys = 2 + r.Intn(4)
+	return c
 }
 
 // run is a history by choices, as the model answers.
 func run(c api.Config, programs [][]api.Call, choices []int) []api.Event {
-	m, _ := model.New(c)
-	var l []api.Event
-	told, seen := map[int]api.Answer{}, make([]int, c.Tasks)
-	for _, task := range choices {
-		n := seen[task]
-		if n/3 >= len(programs[task]) {
-			continue
-		}
-		e := api.Event{What: uint8(1 + n%3), Task: task, Call: n / 3}
-		if e.What == api.Mark {
-			told[task] = m.Do(task, programs[task][n/3])
-		}
-		if e.What == api.Return {
-			e.Answer = told[task]
-		}
-		seen[task]++
-		l = append(l, e)
-	}
-	return l
-}
-
-func choices(r *rand.Rand, c api.Config, n int) []int {
-	var l []int
-	for range n {
-		l = append(l, r.Intn(c.Tasks))
-	}
+	l, _ := compile.Free(c, programs, choices)
 	return l
 }
 
@@ -147,8 +95,8 @@ func TestTxns(t *testing.T) {
 	for seed := range 800 {
 		r := rand.New(rand.NewSource(int64(seed)))
 		c := configs(r)
-		p := programs(r, c, 20)
-		l := run(c, p, choices(r, c, r.Intn(200)))
+		p := turns.Programs(r.Intn, c, 20)
+		l := run(c, p, turns.Picks(r.Intn, c, r.Intn(200)))
 		got, e := axioms.Txns(c, p, l)
 		if want := txns(c, p, l); e != api.OK || !slices.EqualFunc(got, want, same) {
 			t.Fatalf("%v:\n%+v, not\n%+v, %v", l, got, want, e)
@@ -195,9 +143,9 @@ func TestOfTheStore(t *testing.T) {
 	for seed := range 120 {
 		r := rand.New(rand.NewSource(int64(seed)))
 		c := configs(r)
-		p := programs(r, c, 30)
+		p := turns.Programs(r.Intn, c, 30)
 		s, _ := store.New(c, uint8(1+seed%2), p)
-		s.Run(choices(r, c, r.Intn(3000)))
+		s.Run(turns.Picks(r.Intn, c, r.Intn(3000)))
 		got, e := axioms.Txns(c, p, s.Events())
 		if e != api.OK || !axioms.Holds(got) {
 			t.Fatalf("%+v, %v", got, e)
@@ -211,8 +159,8 @@ func TestOneAnswer(t *testing.T) {
 	for seed := range 800 {
 		r := rand.New(rand.NewSource(int64(seed)))
 		c := configs(r)
-		p := programs(r, c, 20)
-		l := run(c, p, choices(r, c, 200))
+		p := turns.Programs(r.Intn, c, 20)
+		l := run(c, p, turns.Picks(r.Intn, c, 200))
 		var reads []int
 		for k, e := range l {
 			if kind := p[e.Task][e.Call].Kind; e.What == api.Return && e.Answer.Err == api.OK && (kind == api.Get || kind == api.Scan) {

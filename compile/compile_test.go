@@ -12,44 +12,8 @@ import (
 	"ferryman/model"
 	"ferryman/replay"
 	"ferryman/store"
+	"ferryman/turns"
 )
-
-func configs(r *rand.Rand) api.Config {
-	return api.Config{Tasks: 1 + r.Intn(4), Active: 1 + r.Intn(4), Keys: 1 + r.Intn(6), Depth: 2 + r.Intn(3), TS: 1 + r.Intn(15), KeyLen: 1, ValLen: 1, Fan: 3}
-}
-
-// program is some program.
-func program(r *rand.Rand, n int) []api.Call {
-	var l []api.Call
-	tx := 0
-	for range n {
-		x := api.Call{Kind: []uint8{1, 1, 2, 2, 3, 3, 3, 3, 4, 5, 6, 6, 6, 7, 8, 9, 0}[r.Intn(17)], Tx: max(1, tx-r.Intn(8)/7), Key: string(rune('a' + r.Intn(6))), Value: string(rune('0' + r.Intn(9))), Limit: r.Intn(6), Engine: uint8(1 + r.Intn(2))}
-		if tx == 0 && r.Intn(9) > 0 {
-			x.Kind = api.Begin
-		}
-		if x.Kind == api.Begin {
-			tx++
-		}
-		l = append(l, x)
-	}
-	return l
-}
-
-func programs(r *rand.Rand, c api.Config, n int) [][]api.Call {
-	var l [][]api.Call
-	for range c.Tasks - r.Intn(8)/7 {
-		l = append(l, program(r, r.Intn(n+1)))
-	}
-	return l
-}
-
-func choices(r *rand.Rand, c api.Config, n int) []int {
-	var l []int
-	for range n {
-		l = append(l, r.Intn(c.Tasks))
-	}
-	return l
-}
 
 // run tells by the words the run that comes of choices.
 func run(c api.Config, programs [][]api.Call, choices []int) []api.Event {
@@ -102,9 +66,9 @@ func alike(a, b []api.Event) bool {
 func TestFree(t *testing.T) {
 	for seed := range 600 {
 		r := rand.New(rand.NewSource(int64(seed)))
-		c := configs(r)
-		p := programs(r, c, 12)
-		l := choices(r, c, r.Intn(100))
+		c := turns.Config(r.Intn)
+		p := turns.Programs(r.Intn, c, 12)
+		l := turns.Picks(r.Intn, c, r.Intn(100))
 		for k := range l {
 			if r.Intn(10) == 0 {
 				l[k] = []int{math.MinInt, -1, c.Tasks, math.MaxInt}[r.Intn(4)]
@@ -157,9 +121,9 @@ func schedule(t *testing.T, c api.Config, home uint8, programs [][]api.Call, l [
 func TestOf(t *testing.T) {
 	for seed := range 150 {
 		r := rand.New(rand.NewSource(int64(seed)))
-		c := configs(r)
-		p := programs(r, c, 10)
-		l := run(c, p, choices(r, c, r.Intn(100)))
+		c := turns.Config(r.Intn)
+		p := turns.Programs(r.Intn, c, 10)
+		l := run(c, p, turns.Picks(r.Intn, c, r.Intn(100)))
 		for _, home := range []uint8{1, 2} {
 			got, e := compile.Of(c, home, p, l)
 			if want := schedule(t, c, home, p, l); e != api.OK || !slices.Equal(got, want) {
@@ -177,11 +141,11 @@ func TestOf(t *testing.T) {
 func TestOfEachSchedule(t *testing.T) {
 	for seed := range 150 {
 		r := rand.New(rand.NewSource(int64(seed)))
-		c := configs(r)
-		p := programs(r, c, 15)
+		c := turns.Config(r.Intn)
+		p := turns.Programs(r.Intn, c, 15)
 		home := uint8(1 + seed%2)
 		one, _ := store.New(c, home, p)
-		one.Run(choices(r, c, r.Intn(1500)))
+		one.Run(turns.Picks(r.Intn, c, r.Intn(1500)))
 		l := one.Events()
 		picks, e := compile.Of(c, 3-home, p, l)
 		other, _ := store.New(c, 3-home, p)
@@ -306,9 +270,9 @@ func TestFerried(t *testing.T) {
 	in, left := 0, 0
 	for seed := range 400 {
 		r := rand.New(rand.NewSource(int64(seed)))
-		c := configs(r)
-		p := programs(r, c, 10)
-		l := run(c, p, choices(r, c, r.Intn(60)))
+		c := turns.Config(r.Intn)
+		p := turns.Programs(r.Intn, c, 10)
+		l := run(c, p, turns.Picks(r.Intn, c, r.Intn(60)))
 		list := puts(r, c, r.Intn(10))
 		wantP, wantL := p, l
 		want := map[event.Place]int{}

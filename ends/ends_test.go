@@ -13,13 +13,14 @@ import (
 	"ferryman/ends"
 	"ferryman/fork"
 	"ferryman/latch"
+	"ferryman/put"
 	"ferryman/row"
 	"ferryman/status"
 	"ferryman/view"
 )
 
 func config() api.Config {
-	return api.Config{Tasks: 4, Active: 6, Keys: 20, Depth: 6, TS: 50, KeyLen: 3, ValLen: 3, Fan: 3}
+	return api.Config{Tasks: 4, Active: 6, Keys: 20, Depth: 6, TS: 50, KeyLen: 4, ValLen: 4, Fan: 3}
 }
 
 func make1(t *testing.T, home uint8) *row.Shop {
@@ -73,111 +74,23 @@ func told(s *row.Shop) string {
 	return out
 }
 
-// putter puts a value on a key, as layer 23 will: the table judges, and the row is written while the anchor is held.
-type putter struct {
-	w       int
-	key     string
-	tomb    bool
-	find    *ends.Find
-	collect *row.Collect
-	plans   []*row.Plan
-	err     api.Errno
-	stage   int
-	anchor  api.Handle
-}
-
-func newPutter(w int, key string, tomb bool) *putter {
-	mode := fork.Insert
+// writer is the machine by which a writer puts a value, or a tomb, on a key.
+func writer(w int, key string, tomb bool) *put.Put {
+	txs := &call.Txs{}
+	txs.Add(w)
+	x := api.Call{Kind: api.Put, Tx: 1, Key: key, Value: "v"}
 	if tomb {
-		mode = fork.Look
+		x.Kind = api.Delete
 	}
-	return &putter{w: w, key: key, tomb: tomb, find: ends.NewFind(mode, key)}
+	return put.New(x, txs)
 }
 
-func (p *putter) version() api.Version {
-	if p.tomb {
-		return api.Version{Writer: p.w, Tomb: true}
-	}
-	return api.Version{Writer: p.w, Value: "v"}
-}
-
-// end lets go of the anchor.
-func (p *putter) end(s *row.Shop, task int) bool {
-	s.Latches.Drop(anchored(p.anchor), task)
-	return true
-}
-
-func (p *putter) Step(s *row.Shop, task int) bool {
-	switch p.stage {
-	case 0: // to find it
-		if p.find.Step(s, task) {
-			p.stage = 1
-			if h, has := p.find.Anchor(); has {
-				p.stage, p.anchor, p.collect = 3, h, row.NewCollect(h)
-			}
-		}
-	case 1: // without the key
-		j := s.Table.Judge(p.w, p.key, nil, p.tomb)
-		if p.err = j.Err; !j.Write {
-			p.find.Crab().Leave(s.Latches, task)
-			p.stage = 9
-			return true
-		}
-		p.anchor, _ = s.Make(j.Home, 0)
-		s.Latches.Try(anchored(p.anchor), task)
-		p.plans = []*row.Plan{row.Put(row.Row{Anchor: p.anchor, Engine: j.Home}, p.version(), false)}
-		p.stage = 2
-	case 2:
-		if p.find.Crab().Put(s.Tree, p.anchor) {
-			p.find.Crab().Leave(s.Latches, task)
-			p.stage = 4
-		}
-	case 3:
-		if !p.collect.Step(s) {
-			return false
-		}
-		r := p.collect.Row()
-		j := s.Table.Judge(p.w, p.key, r.Versions, p.tomb)
-		if p.err = j.Err; !j.Write {
-			p.stage = 9
-			return p.end(s, task)
-		}
-		if j.Off {
-			var off *row.Plan
-			off, r = row.Off(r)
-			p.plans = append(p.plans, off)
-		}
-		k := j.Keep
-		if j.Own {
-			k++
-		}
-		sweep, r := row.Sweep(r, k)
-		p.plans = append(p.plans, sweep, row.Put(r, p.version(), j.Own))
-		p.stage = 4
-	case 4:
-		for len(p.plans) > 0 && p.plans[0].Len() == 0 {
-			p.plans = p.plans[1:]
-		}
-		if len(p.plans) > 0 {
-			p.plans[0].Step(s)
-			return false
-		}
-		p.stage = 9
-		return p.end(s, task)
-	}
-	return p.stage == 9
-}
-
-// put has a writer put a key, alone.
-func put(t *testing.T, s *row.Shop, w int, key string, tomb bool) api.Errno {
+// write has a writer write a key, alone.
+func write(t *testing.T, s *row.Shop, w int, key string, tomb bool) api.Errno {
 	t.Helper()
-	p := newPutter(w, key, tomb)
-	for n := 0; !p.Step(s, 0); n++ {
-		if n > 200 {
-			t.Fatal("a put does not end")
-		}
-	}
-	return p.err
+	p := writer(w, key, tomb)
+	run(t, s, 0, p)
+	return p.Answer().Err
 }
 
 // do has a task do a call by layer 21, alone.
@@ -208,11 +121,11 @@ func TestHead(t *testing.T) {
 	for n := range 3 {
 		do(t, s, 0, api.Call{Kind: api.Begin}, txs)
 		if n == 1 { // so that snapshots are unlike ones
-			put(t, s, 2, "k", false)
+			write(t, s, 2, "k", false)
 			do(t, s, 0, api.Call{Kind: api.Commit, Tx: 2}, txs)
 		}
 	}
-	long := strings.Repeat("x", 4)
+	long := strings.Repeat("x", 5)
 	for k, x := range []struct {
 		c    api.Call
 		want api.Errno
@@ -333,7 +246,7 @@ func TestAbortOfOne(t *testing.T) {
 	for _, home := range []uint8{1, 2} {
 		s, txs := make1(t, home), &call.Txs{}
 		do(t, s, 0, api.Call{Kind: api.Begin}, txs)
-		if e := put(t, s, 1, "k", false); e != api.OK {
+		if e := write(t, s, 1, "k", false); e != api.OK {
 			t.Fatal(e)
 		}
 		h, _ := s.Tree.Find("k")
@@ -375,7 +288,7 @@ func TestAbortSteps(t *testing.T) {
 			s, txs := make1(t, home), &call.Txs{}
 			for k := 1; k <= n+1; k++ {
 				do(t, s, 0, api.Call{Kind: api.Begin}, txs)
-				put(t, s, k, "k", false)
+				write(t, s, k, "k", false)
 				if k <= n {
 					do(t, s, 0, api.Call{Kind: api.Commit, Tx: k}, txs)
 				}
@@ -388,13 +301,13 @@ func TestAbortSteps(t *testing.T) {
 		}
 		s, txs := make1(t, home), &call.Txs{} // another one's intent is there by now
 		do(t, s, 0, api.Call{Kind: api.Begin}, txs)
-		put(t, s, 1, "k", false)
+		write(t, s, 1, "k", false)
 		s.Log.Invoke(0)
 		m := ends.New(api.Call{Kind: api.Abort, Tx: 1}, txs)
 		m.Step(s, 0)
 		m.Step(s, 0)
 		do(t, s, 1, api.Call{Kind: api.Begin}, &call.Txs{})
-		p := newPutter(2, "k", false)
+		p := writer(2, "k", false)
 		for !p.Step(s, 1) {
 		}
 		// the root word, the leaf, the latch; the anchor, the version; the table; the table
@@ -414,12 +327,12 @@ func TestAbortOfMore(t *testing.T) {
 			return w
 		}
 		begin()
-		put(t, s, 1, "a", false)
-		put(t, s, 1, "c", false)
+		write(t, s, 1, "a", false)
+		write(t, s, 1, "c", false)
 		do(t, s, 0, api.Call{Kind: api.Commit, Tx: 1}, txs)
 		begin()
 		for _, key := range []string{"d", "c", "a", "b"} {
-			if e := put(t, s, 2, key, key == "a"); e != api.OK {
+			if e := write(t, s, 2, key, key == "a"); e != api.OK {
 				t.Fatal(e)
 			}
 		}
@@ -430,11 +343,11 @@ func TestAbortOfMore(t *testing.T) {
 		other := &call.Txs{}
 		do(t, s, 1, api.Call{Kind: api.Begin}, other)
 		for _, key := range []string{"c", "d"} { // another one takes the falling one's intents off, and puts on its own
-			p := newPutter(3, key, false)
+			p := writer(3, key, false)
 			for !p.Step(s, 1) {
 			}
-			if p.err != api.OK {
-				t.Fatal(p.err)
+			if e := p.Answer().Err; e != api.OK {
+				t.Fatal(e)
 			}
 		}
 		for steps := 0; !m.Step(s, 0); steps++ {
@@ -465,7 +378,7 @@ func TestAbortOfMore(t *testing.T) {
 	txs := &call.Txs{}
 	for n := 1; n <= 2; n++ {
 		do(t, s, 0, api.Call{Kind: api.Begin}, txs)
-		put(t, s, n, "k", false)
+		write(t, s, n, "k", false)
 		if a, _ := do(t, s, 0, api.Call{Kind: api.Commit, Tx: n}, txs); (a.Err == api.Exhausted) != (n == 2) {
 			t.Error(n, a)
 		}
@@ -548,14 +461,14 @@ func TestRemove(t *testing.T) {
 		s, txs := make1(t, home), &call.Txs{}
 		for n := 1; n <= 2; n++ {
 			do(t, s, 0, api.Call{Kind: api.Begin}, txs)
-			put(t, s, n, "kept", false)
-			put(t, s, n, "dead", n == 2)
+			write(t, s, n, "kept", false)
+			write(t, s, n, "dead", n == 2)
 			do(t, s, 0, api.Call{Kind: api.Commit, Tx: n}, txs)
 		}
 		do(t, s, 0, api.Call{Kind: api.Begin}, txs)
-		put(t, s, 3, "busy", false)
+		write(t, s, 3, "busy", false)
 		do(t, s, 0, api.Call{Kind: api.Begin}, txs)
-		put(t, s, 4, "fall", false)
+		write(t, s, 4, "fall", false)
 		s.Table.Abort(4)
 		none, _ := s.Make(home, 0)
 		s.Tree.Insert("none", none)
@@ -566,7 +479,7 @@ func TestRemove(t *testing.T) {
 			}
 		}
 		do(t, s, 0, api.Call{Kind: api.Begin}, txs)
-		put(t, s, 5, "once", false)
+		write(t, s, 5, "once", false)
 		do(t, s, 0, api.Call{Kind: api.Commit, Tx: 5}, txs)
 		was := told(s)
 		if run(t, s, 1, ends.NewRemove("once")); told(s) != was {
@@ -707,7 +620,7 @@ func TestWalkWaits(t *testing.T) {
 type actor struct {
 	txs   *call.Txs
 	m     ends.Machine // a call of layer 21 that is under way
-	p     *putter
+	p     *put.Put
 	w     *ends.Walk
 	been  []string
 	there map[string]int // keys that were there at some time since the walk began; at all times: as often as it was asked
@@ -797,7 +710,7 @@ func begin(r *rand.Rand, s *row.Shop, task int, a *actor) {
 	case s.Table.State(w) != status.Active:
 		a.m = ends.New(api.Call{Kind: api.Begin}, a.txs)
 	case k < 8:
-		a.p = newPutter(w, string(rune('a'+r.Intn(14))), r.Intn(4) == 0)
+		a.p = writer(w, string(rune('a'+r.Intn(14))), r.Intn(4) == 0)
 	case k < 9:
 		a.m = ends.New(api.Call{Kind: api.Commit, Tx: a.tx}, a.txs)
 	default:
@@ -935,7 +848,7 @@ func TestExamples(t *testing.T) {
 	if a, n := do(t, s, 0, api.Call{Kind: api.Commit, Tx: 5}, txs); n != 1 || a.Err != api.NoTxn {
 		t.Error(a, n)
 	}
-	put(t, s, 1, "k", false)
+	write(t, s, 1, "k", false)
 	if a, n := do(t, s, 0, api.Call{Kind: api.Abort, Tx: 1}, txs); n != 18 || a.Err != api.OK {
 		t.Error(a, n)
 	}

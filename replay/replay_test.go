@@ -8,73 +8,27 @@ import (
 	"testing"
 
 	"ferryman/api"
+	"ferryman/compile"
 	"ferryman/event"
 	"ferryman/model"
 	"ferryman/replay"
+	"ferryman/turns"
 )
 
 func same(a, b api.Answer) bool {
 	return a.Err == b.Err && a.Found == b.Found && a.Value == b.Value && slices.Equal(a.Pairs, b.Pairs)
 }
 
+// configs are such by which few calls come to a lot.
 func configs(r *rand.Rand) api.Config {
-	return api.Config{Tasks: 1 + r.Intn(4), Active: 1 + r.Intn(3), Keys: 1 + r.Intn(3), Depth: 2 + r.Intn(2), TS: 1 + r.Intn(6), KeyLen: 1, ValLen: 1, Fan: 3}
+	c := turns.Config(r.Intn)
+	c.Keys, c.TS = 1+r.Intn(3), 1+r.Intn(6)
+	return c
 }
 
-// program is some program.
-func program(r *rand.Rand, n int) []api.Call {
-	var l []api.Call
-	tx := 0
-	for range n {
-		x := api.Call{Kind: []uint8{1, 2, 2, 3, 3, 3, 4, 5, 6, 6, 7, 8, 9, 0}[r.Intn(14)], Tx: max(1, tx-r.Intn(8)/7), Key: string(rune('a' + r.Intn(3))), Value: string(rune('0' + r.Intn(9))), Limit: 5, Engine: uint8(1 + r.Intn(2))}
-		if tx == 0 {
-			x.Kind = api.Begin
-		}
-		if x.Kind == api.Begin {
-			tx++
-		}
-		l = append(l, x)
-	}
-	return l
-}
-
-func programs(r *rand.Rand, c api.Config, n int) [][]api.Call {
-	var l [][]api.Call
-	for range c.Tasks - r.Intn(10)/9 {
-		l = append(l, program(r, r.Intn(n+1)))
-	}
-	return l
-}
-
-// run is a history by choices: each has the task's next event come to be, as the model answers.
+// run is a history by choices, as the model answers.
 func run(c api.Config, programs [][]api.Call, choices []int) []api.Event {
-	m, _ := model.New(c)
-	var l []api.Event
-	told := map[int]api.Answer{}
-	seen := make([]int, c.Tasks)
-	for _, task := range choices {
-		n := seen[task]
-		if task >= len(programs) || n/3 >= len(programs[task]) {
-			continue
-		}
-		e := api.Event{What: uint8(1 + n%3), Task: task, Call: n / 3}
-		if e.What == api.Mark {
-			told[task] = m.Do(task, programs[task][n/3])
-		}
-		if e.What == api.Return {
-			e.Answer = told[task]
-		}
-		seen[task]++
-		l = append(l, e)
-	}
-	return l
-}
-
-func choices(r *rand.Rand, c api.Config, n int) []int {
-	var l []int
-	for range n {
-		l = append(l, r.Intn(c.Tasks))
-	}
+	l, _ := compile.Free(c, programs, choices)
 	return l
 }
 
@@ -180,8 +134,8 @@ func TestCheck(t *testing.T) {
 	for seed := range 1500 {
 		r := rand.New(rand.NewSource(int64(seed)))
 		c := configs(r)
-		p := programs(r, c, 9)
-		l := run(c, p, choices(r, c, r.Intn(60)))
+		p := turns.Programs(r.Intn, c, 9)
+		l := run(c, p, turns.Picks(r.Intn, c, r.Intn(60)))
 		for n := range len(l) + 1 {
 			if at, e := replay.Check(c, p, l[:n]); at != -1 || e != api.OK {
 				t.Fatalf("the first %d of %v: %d, %v", n, l, at, e)
@@ -224,8 +178,8 @@ func TestAnswers(t *testing.T) {
 	for seed := range 1500 {
 		r := rand.New(rand.NewSource(int64(seed)))
 		c := configs(r)
-		p := programs(r, c, 9)
-		l := run(c, p, choices(r, c, r.Intn(60)))
+		p := turns.Programs(r.Intn, c, 9)
+		l := run(c, p, turns.Picks(r.Intn, c, r.Intn(60)))
 		for range r.Intn(3) {
 			l = changed(r, l)
 		}
@@ -325,8 +279,8 @@ func TestFits(t *testing.T) {
 	for seed := range 2500 {
 		r := rand.New(rand.NewSource(int64(seed)))
 		c := configs(r)
-		p := programs(r, c, 5)
-		l := run(c, p, choices(r, c, r.Intn(18)))
+		p := turns.Programs(r.Intn, c, 5)
+		l := run(c, p, turns.Picks(r.Intn, c, r.Intn(18)))
 		if is, e := replay.Fits(c, p, event.Bare(l)); len(event.Bare(l)) <= 24 && (!is || e != api.OK) {
 			t.Fatalf("without its Marks %v does not fit: %v", l, e)
 		}
@@ -405,7 +359,7 @@ func TestOneByOne(t *testing.T) {
 	for seed := range 400 {
 		r := rand.New(rand.NewSource(int64(seed)))
 		c := configs(r)
-		p := programs(r, c, 6)
+		p := turns.Programs(r.Intn, c, 6)
 		m, _ := model.New(c)
 		var l []api.Event
 		calls := make([]int, c.Tasks)

@@ -6,9 +6,11 @@ import (
 	"testing"
 
 	"ferryman/api"
+	"ferryman/compile"
 	"ferryman/model"
 	"ferryman/replay"
 	"ferryman/room"
+	"ferryman/turns"
 )
 
 func least() api.Config {
@@ -126,50 +128,9 @@ func TestLarger(t *testing.T) {
 	}
 }
 
-func configs(r *rand.Rand) api.Config {
-	return api.Config{Tasks: 1 + r.Intn(4), Active: 1 + r.Intn(4), Keys: 1 + r.Intn(4), Depth: 2 + r.Intn(3), TS: 1 + r.Intn(9), KeyLen: 1, ValLen: 1, Fan: 3}
-}
-
-// program is some program.
-func program(r *rand.Rand, n int) []api.Call {
-	var l []api.Call
-	tx := 0
-	for range n {
-		x := api.Call{Kind: []uint8{1, 1, 2, 3, 3, 3, 3, 4, 5, 6, 6, 6, 7, 7, 8, 9, 9, 0}[r.Intn(18)], Tx: max(1, tx-r.Intn(8)/7), Key: string(rune('a' + r.Intn(5))), Value: "v", Engine: uint8(1 + r.Intn(2))}
-		if tx == 0 && x.Kind >= 2 && x.Kind <= 7 {
-			x.Kind = api.Begin
-		}
-		if x.Kind == api.Begin {
-			tx++
-		}
-		if r.Intn(20) == 0 {
-			x.Engine, x.Key = 3, "too long"
-		}
-		l = append(l, x)
-	}
-	return l
-}
-
 // run is a history by choices, as the model answers.
 func run(c api.Config, programs [][]api.Call, choices []int) []api.Event {
-	m, _ := model.New(c)
-	var l []api.Event
-	told, seen := map[int]api.Answer{}, make([]int, c.Tasks)
-	for _, task := range choices {
-		n := seen[task]
-		if n/3 >= len(programs[task]) {
-			continue
-		}
-		e := api.Event{What: uint8(1 + n%3), Task: task, Call: n / 3}
-		if e.What == api.Mark {
-			told[task] = m.Do(task, programs[task][n/3])
-		}
-		if e.What == api.Return {
-			e.Answer = told[task]
-		}
-		seen[task]++
-		l = append(l, e)
-	}
+	l, _ := compile.Free(c, programs, choices)
 	return l
 }
 
@@ -209,16 +170,9 @@ func TestNow(t *testing.T) {
 	took := 0
 	for seed := range 400 {
 		r := rand.New(rand.NewSource(int64(seed)))
-		c := configs(r)
-		var p [][]api.Call
-		for range c.Tasks {
-			p = append(p, program(r, r.Intn(25)))
-		}
-		var choices []int
-		for range r.Intn(150) {
-			choices = append(choices, r.Intn(c.Tasks))
-		}
-		l := run(c, p, choices)
+		c := turns.Config(r.Intn)
+		p := turns.Programs(r.Intn, c, 25)
+		l := run(c, p, turns.Picks(r.Intn, c, r.Intn(200)))
 		mostSlots, mostAnchors := room.Bound(c)
 		wasSlots, wasAnchors := 0, 0
 		for n := range len(l) + 1 {

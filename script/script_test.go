@@ -13,56 +13,22 @@ import (
 	"ferryman/event"
 	"ferryman/script"
 	"ferryman/store"
+	"ferryman/turns"
 )
-
-func configs(r *rand.Rand) api.Config {
-	return api.Config{Tasks: 1 + r.Intn(5), Active: 1 + r.Intn(5), Keys: 1 + r.Intn(7), Depth: 2 + r.Intn(4), TS: []int{1, 2, 5, 40}[r.Intn(4)], KeyLen: 2, ValLen: 3, Fan: 3 + r.Intn(2)}
-}
-
-// program is some program; calls that are refused are in it, too.
-func program(r *rand.Rand, most int) []api.Call {
-	var l []api.Call
-	for n := 1; len(l) < most; n++ {
-		l = append(l, api.Call{Kind: api.Begin})
-		for range r.Intn(6) {
-			x := api.Call{Kind: []uint8{2, 2, 3, 3, 3, 3, 4, 4, 5}[r.Intn(9)], Tx: n - r.Intn(12)/11, Key: string(rune('a' + r.Intn(8))), Value: strconv.Itoa(r.Intn(1000)), Limit: []int{128, 3, 1, 0, -1}[r.Intn(20)/4]}
-			if r.Intn(40) == 0 {
-				x.Key, x.Value = strings.Repeat("k", r.Intn(4)), strings.Repeat("v", r.Intn(5))
-			}
-			if x.Kind == api.Scan && r.Intn(2) == 0 {
-				x.Key = ""
-			}
-			if r.Intn(2) == 0 {
-				x.End = string(rune('a' + r.Intn(9)))
-			}
-			l = append(l, x)
-		}
-		switch r.Intn(8) {
-		case 0:
-			l = append(l, api.Call{Kind: api.Vacuum})
-		case 1:
-			l = append(l, api.Call{Kind: api.Migrate, Engine: uint8(1 + r.Intn(2))})
-		}
-		l = append(l, api.Call{Kind: []uint8{api.Commit, api.Commit, api.Abort}[r.Intn(3)], Tx: n})
-	}
-	return l[:most]
-}
 
 // some is some script that may be.
 func some(r *rand.Rand, calls, picks int) script.Script {
-	x := script.Script{C: configs(r), Home: uint8(1 + r.Intn(2))}
-	for range x.C.Tasks - r.Intn(20)/19 {
-		x.Programs = append(x.Programs, program(r, r.Intn(calls+1)))
-	}
-	long := 1 // how often one behind the other a task is picked, at most
-	if r.Intn(2) == 0 {
-		long += r.Intn(30)
-	}
-	for n := r.Intn(picks + 1); len(x.Picks) < n; {
-		task := r.Intn(x.C.Tasks)
-		for range 1 + r.Intn(long) {
-			x.Picks = append(x.Picks, task)
-		}
+	x := script.Script{C: turns.Config(r.Intn), Home: uint8(1 + r.Intn(2))}
+	x.Programs = turns.Programs(r.Intn, x.C, calls)
+	x.Picks = turns.Picks(r.Intn, x.C, r.Intn(picks+1))
+	return x
+}
+
+// shows is some script that has a text: all its calls may be.
+func shows(r *rand.Rand, calls, picks int) script.Script {
+	x := some(r, calls, picks)
+	for k, program := range x.Programs {
+		x.Programs[k] = slices.DeleteFunc(program, func(y api.Call) bool { return call.May(y) != api.OK })
 	}
 	return x
 }
@@ -157,7 +123,7 @@ func TestMay(t *testing.T) {
 func TestShowParse(t *testing.T) {
 	for seed := range 400 {
 		r := rand.New(rand.NewSource(int64(seed)))
-		x := some(r, 20, 60)
+		x := shows(r, 20, 60)
 		if seed%5 == 0 {
 			for range r.Intn(3) {
 				x.Programs = append(x.Programs, nil)
@@ -187,7 +153,7 @@ func TestShowParse(t *testing.T) {
 func TestSame(t *testing.T) {
 	for seed := range 3000 {
 		r := rand.New(rand.NewSource(int64(seed)))
-		a := some(r, 6, 8)
+		a := shows(r, 6, 8)
 		b := clone(a)
 		changed := otherwise(r, &b)
 		if script.Same(a, b) != !changed || script.Same(b, a) != !changed || !script.Same(a, clone(a)) {
@@ -293,7 +259,7 @@ func TestTexts(t *testing.T) {
 	ok := 0
 	for seed := range 6000 {
 		r := rand.New(rand.NewSource(int64(seed)))
-		s := script.Show(some(r, 3, 5))
+		s := script.Show(shows(r, 3, 5))
 		if s == "" {
 			continue
 		}

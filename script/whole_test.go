@@ -15,21 +15,20 @@ import (
 	"ferryman/row"
 	"ferryman/script"
 	"ferryman/store"
+	"ferryman/turns"
 )
 
 // great is a script with as much of all as there may be.
 func great(r *rand.Rand) script.Script {
 	x := script.Script{C: api.Config{Tasks: api.MaxTasks, Active: api.MaxActive, Keys: api.MaxKeys, Depth: api.MaxDepth, TS: api.MaxTS, KeyLen: api.MaxKey, ValLen: api.MaxVal, Fan: 3}, Home: uint8(1 + r.Intn(2))}
 	for range x.C.Tasks {
-		l := program(r, api.MaxCalls)
+		l := turns.Program(r.Intn, api.MaxCalls)
 		for k := range l {
 			l[k].Key += string(rune('a' + r.Intn(10)))
 		}
 		x.Programs = append(x.Programs, l)
 	}
-	for range 10000 {
-		x.Picks = append(x.Picks, r.Intn(x.C.Tasks))
-	}
+	x.Picks = turns.Picks(r.Intn, x.C, 10000)
 	return x
 }
 

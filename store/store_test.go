@@ -5,7 +5,6 @@ import (
 	"math"
 	"math/rand"
 	"slices"
-	"strings"
 	"testing"
 
 	"ferryman/api"
@@ -13,6 +12,7 @@ import (
 	"ferryman/model"
 	"ferryman/row"
 	"ferryman/store"
+	"ferryman/turns"
 )
 
 func make1(t *testing.T, c api.Config, home uint8, programs [][]api.Call) *store.Store {
@@ -26,67 +26,6 @@ func make1(t *testing.T, c api.Config, home uint8, programs [][]api.Call) *store
 
 func same(a, b api.Answer) bool {
 	return a.Err == b.Err && a.Found == b.Found && a.Value == b.Value && slices.Equal(a.Pairs, b.Pairs)
-}
-
-func configs(r *rand.Rand) api.Config {
-	return api.Config{Tasks: 1 + r.Intn(5), Active: 1 + r.Intn(5), Keys: 2 + r.Intn(8), Depth: 2 + r.Intn(4), TS: []int{1, 2, 4, 9, 40}[r.Intn(5)], KeyLen: 2, ValLen: 3, Fan: 3 + r.Intn(2)}
-}
-
-// text is some text, now and then one that is too long.
-func text(r *rand.Rand, letters int) string {
-	if r.Intn(60) == 0 {
-		return strings.Repeat("x", r.Intn(6))
-	}
-	return string(rune('a' + r.Intn(letters)))
-}
-
-// inTx is some call of a transaction.
-func inTx(r *rand.Rand, n int) api.Call {
-	x := api.Call{Kind: []uint8{2, 2, 3, 3, 3, 3, 4, 4, 5}[r.Intn(9)], Tx: n, Key: text(r, 9), Value: text(r, 26), Limit: []int{128, 3, 1, 0, -1}[r.Intn(20)/4]}
-	if x.Kind == api.Scan && r.Intn(2) == 0 {
-		x.Key = ""
-	}
-	if r.Intn(2) == 0 {
-		x.End = text(r, 9)
-	}
-	return x
-}
-
-// program is some program; calls that are refused are in it, too.
-func program(r *rand.Rand, most int) []api.Call {
-	var l []api.Call
-	for n := 1; len(l) < most; n++ {
-		l = append(l, api.Call{Kind: api.Begin})
-		for range r.Intn(6) {
-			l = append(l, inTx(r, n-r.Intn(12)/11))
-		}
-		switch r.Intn(10) {
-		case 0:
-			l = append(l, api.Call{Kind: api.Vacuum})
-		case 1:
-			l = append(l, api.Call{Kind: api.Migrate, Engine: uint8(1 + r.Intn(2))})
-		case 2:
-			l = append(l, api.Call{Kind: []uint8{0, 10, 255, api.Migrate}[r.Intn(4)], Tx: n})
-		}
-		l = append(l, api.Call{Kind: []uint8{api.Commit, api.Commit, api.Abort}[r.Intn(3)], Tx: n})
-	}
-	return l[:most]
-}
-
-func programs(r *rand.Rand, c api.Config, most int) [][]api.Call {
-	var l [][]api.Call
-	for range c.Tasks - r.Intn(20)/19 {
-		l = append(l, program(r, r.Intn(most+1)))
-	}
-	return l
-}
-
-func randomPicks(r *rand.Rand, c api.Config, n int) []int {
-	var l []int
-	for range n {
-		l = append(l, r.Intn(c.Tasks))
-	}
-	return l
 }
 
 // byMarks holds the answers of a history against the model, in the row of the marks; and that it is of the programs.
@@ -156,10 +95,10 @@ func TestOneModel(t *testing.T) {
 	answered := map[api.Errno]int{}
 	for seed := range 250 {
 		r := rand.New(rand.NewSource(int64(seed)))
-		c := configs(r)
-		l := programs(r, c, 40)
+		c := turns.Config(r.Intn)
+		l := turns.Programs(r.Intn, c, 40)
 		s := make1(t, c, uint8(1+seed%2), l)
-		s.Run(randomPicks(r, c, r.Intn(4000)))
+		s.Run(turns.Picks(r.Intn, c, r.Intn(4000)))
 		byMarks(t, c, l, s.Events())
 		finish(t, c, s)
 		history := s.Events()
@@ -194,8 +133,8 @@ func TestOneModel(t *testing.T) {
 func TestPicks(t *testing.T) {
 	for seed := range 40 {
 		r := rand.New(rand.NewSource(int64(seed)))
-		c := configs(r)
-		l := programs(r, c, 12)
+		c := turns.Config(r.Intn)
+		l := turns.Programs(r.Intn, c, 12)
 		s := make1(t, c, 1, l)
 		invoked, steps := make([]int, c.Tasks), make([]int, c.Tasks) // steps: -1: none is under way
 		done := make([]bool, c.Tasks)
@@ -263,9 +202,9 @@ func TestAlone(t *testing.T) {
 	tried := 0
 	for seed := range 60 {
 		r := rand.New(rand.NewSource(int64(seed)))
-		c := configs(r)
-		l := programs(r, c, 20)
-		picks := randomPicks(r, c, 1500)
+		c := turns.Config(r.Intn)
+		l := turns.Programs(r.Intn, c, 20)
+		picks := turns.Picks(r.Intn, c, 1500)
 		s := make1(t, c, uint8(1+seed%2), l)
 		for n, task := range picks {
 			s.Pick(task)
@@ -318,9 +257,9 @@ func told(s *row.Shop) string {
 func TestJustByItsPicks(t *testing.T) {
 	for seed := range 40 {
 		r := rand.New(rand.NewSource(int64(seed)))
-		c := configs(r)
-		l := programs(r, c, 20)
-		picks := randomPicks(r, c, 1200)
+		c := turns.Config(r.Intn)
+		l := turns.Programs(r.Intn, c, 20)
+		picks := turns.Picks(r.Intn, c, 1200)
 		handed := make([][]api.Call, len(l))
 		for k := range l {
 			handed[k] = slices.Clone(l[k])
@@ -392,47 +331,28 @@ func inRow(t *testing.T, c api.Config, home uint8, l [][]api.Call, row []int) []
 func TestWhereverKeysAre(t *testing.T) {
 	for seed := range 60 {
 		r := rand.New(rand.NewSource(int64(seed)))
-		c := configs(r)
-		c.Tasks = max(c.Tasks, 2)
-		var l, with [][]api.Call
-		var turns, turnsWith []int
-		for range c.Tasks {
-			l, with = append(l, nil), append(with, nil)
+		c := turns.Config(r.Intn)
+		l := turns.Programs(r.Intn, c, 20)
+		var rest []int // the tasks, as often as they have calls
+		for task, program := range l {
+			l[task] = slices.DeleteFunc(program, func(x api.Call) bool { return x.Kind == api.Migrate })
+			rest = append(rest, slices.Repeat([]int{task}, len(l[task]))...)
 		}
-		for range 60 {
-			task := r.Intn(c.Tasks)
-			x := inTx(r, 1+len(l[task])/8)
-			switch k := len(l[task]); {
-			case k%8 == 0:
-				x = api.Call{Kind: api.Begin}
-			case k%8 == 7:
-				x = api.Call{Kind: api.Commit, Tx: x.Tx}
-			case r.Intn(20) == 0:
-				x = api.Call{Kind: api.Vacuum}
-			}
-			l[task], turns = append(l[task], x), append(turns, task)
+		r.Shuffle(len(rest), func(i, k int) { rest[i], rest[k] = rest[k], rest[i] })
+		with, more, done := make([][]api.Call, len(l)), []int(nil), make([]int, len(l))
+		for _, task := range rest {
 			for range r.Intn(3) {
-				other := r.Intn(c.Tasks)
-				if len(with[other]) < 20+len(l[other]) && len(with[other]) < 50 {
-					with[other], turnsWith = append(with[other], api.Call{Kind: api.Migrate, Engine: uint8(1 + r.Intn(2))}), append(turnsWith, other)
+				if k := r.Intn(len(l)); len(with[k]) < api.MaxCalls-len(l[k])+done[k] {
+					with[k], more = append(with[k], api.Call{Kind: api.Migrate, Engine: uint8(1 + r.Intn(2))}), append(more, k)
 				}
 			}
-			with[task], turnsWith = append(with[task], x), append(turnsWith, task)
+			with[task], more = append(with[task], l[task][done[task]]), append(more, task)
+			done[task]++
 		}
-		var all [][]api.Answer
-		for _, home := range []uint8{1, 2} {
-			all = append(all, inRow(t, c, home, l, turns))
-			long := false
-			for _, x := range with {
-				long = long || len(x) > api.MaxCalls
-			}
-			if !long {
-				all = append(all, inRow(t, c, home, with, turnsWith))
-			}
-		}
-		for _, x := range all[1:] {
-			if !slices.EqualFunc(x, all[0], same) {
-				t.Fatalf("%v, %v", x, all[0])
+		want := inRow(t, c, 1, l, rest)
+		for k, got := range [][]api.Answer{inRow(t, c, 2, l, rest), inRow(t, c, 1, with, more), inRow(t, c, 2, with, more)} {
+			if !slices.EqualFunc(got, want, same) {
+				t.Fatalf("%d: %v, not %v", k, got, want)
 			}
 		}
 	}
