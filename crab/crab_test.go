@@ -728,20 +728,6 @@ func TestCopies(t *testing.T) {
 	}
 }
 
-// P15.2, P15.7: it lets go of nothing that it does not hold, though its task does.
-func TestNotItsOwn(t *testing.T) {
-	x, l := make1(t, 3, "b", "d", "f", "h"), latch.New()
-	c := crab.New(fork.Look, "h")
-	arrive(t, c, x, l, 1)
-	l.Try(word(), 1)
-	l.Try(node(x.Root()), 1)
-	c.Loose(l, 1)
-	c.Leave(l, 1)
-	if got := l.Held(1); !slices.Equal(got, []latch.Name{word(), node(x.Root())}) {
-		t.Error("it let go of what is not its own:", got)
-	}
-}
-
 // P15.2: copies that hold many nodes go down to unlike ones.
 func TestCopiesGoDown(t *testing.T) {
 	for deep := 1; deep < 9; deep++ {

@@ -375,7 +375,7 @@ func TestRounds(t *testing.T) {
 			part, _ := script.Play(x)
 			script.Calm(part, x.C.Tasks, 100000)
 			k := r.Intn(finish)
-			if a, b := script.Finish(part, x.C.Tasks, k), script.Finish(part, math.MaxInt, 100000); a != k || b != finish-k {
+			if a, b := script.Finish(part, x.C.Tasks, k), script.Finish(part, 1000, 100000); a != k || b != finish-k {
 				t.Fatal("by parts:", a, b, finish)
 			}
 		}
@@ -423,7 +423,7 @@ func TestFirstTasks(t *testing.T) {
 	if _, is := s.Under(1); !is {
 		t.Error("the second one was picked")
 	}
-	if n := script.Calm(s, math.MaxInt, 100); n != 3 || s.Left(1) != 1 {
+	if n := script.Calm(s, 1000, 100); n != 3 || s.Left(1) != 1 {
 		t.Error("of both, and more than there are:", n)
 	}
 	if n := script.Finish(s, 9, 100); n != 8 || s.Left(1) != 0 {
