@@ -11,6 +11,7 @@ import (
 	"ferryman/fork"
 	"ferryman/latch"
 	"ferryman/tree"
+	"ferryman/turns"
 )
 
 func make1(t *testing.T, fan int, keys ...string) *tree.Tree {
@@ -482,13 +483,13 @@ func TestNothingToDo(t *testing.T) {
 	for mode := range uint8(4) {
 		for _, key := range []string{"b", "c"} {
 			c := crab.New(mode, key)
-			for !c.Step(x, l, 1) {
+			for n := 0; !c.Step(x, l, 1); n++ {
 				if !c.Put(x, 5) || !c.Take(x) || told(x) != was {
 					t.Fatal("it has not arrived")
 				}
 				c.Loose(l, 1)
-				if len(l.Held(1)) == 0 {
-					t.Fatal("Loose of one that has not arrived")
+				if len(l.Held(1)) == 0 || n > 9 {
+					t.Fatal("Loose of one that has not arrived; or it never does")
 				}
 			}
 			if mode != fork.Insert || key == "b" {
@@ -704,17 +705,21 @@ func TestCopies(t *testing.T) {
 		}
 		d, y, m := c.Copy(), x.Copy(), l.Copy()
 		was, path, held := told(x), c.Path(), l.Held(1)
-		for !d.Step(y, m, 1) {
+		if !turns.Till(func() bool { return d.Step(y, m, 1) }) {
+			t.Fatal("it does not end")
 		}
-		for !act(d, y) {
+		if !turns.Till(func() bool { return act(d, y) }) {
+			t.Fatal("it does not end")
 		}
 		d.Leave(m, 1)
 		if told(x) != was || !slices.Equal(c.Path(), path) || !slices.Equal(l.Held(1), held) {
 			t.Fatal("what is done to a copy is seen")
 		}
-		for !c.Step(x, l, 1) {
+		if !turns.Till(func() bool { return c.Step(x, l, 1) }) {
+			t.Fatal("it does not end")
 		}
-		for !act(c, x) {
+		if !turns.Till(func() bool { return act(c, x) }) {
+			t.Fatal("it does not end")
 		}
 		if told(x) != told(y) {
 			t.Fatal("the copy came to something else")

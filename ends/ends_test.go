@@ -16,6 +16,7 @@ import (
 	"ferryman/put"
 	"ferryman/row"
 	"ferryman/status"
+	"ferryman/turns"
 	"ferryman/view"
 )
 
@@ -308,7 +309,8 @@ func TestAbortSteps(t *testing.T) {
 		m.Step(s, 0)
 		do(t, s, 1, api.Call{Kind: api.Begin}, &call.Txs{})
 		p := writer(2, "k", false)
-		for !p.Step(s, 1) {
+		if !turns.Till(func() bool { return p.Step(s, 1) }) {
+			t.Fatal("it does not end")
 		}
 		// the root word, the leaf, the latch; the anchor, the version; the table; the table
 		if steps := run(t, s, 0, m); steps != 3+2+1+1 || s.A.Used()+s.B.Used() != 1 {
@@ -344,7 +346,8 @@ func TestAbortOfMore(t *testing.T) {
 		do(t, s, 1, api.Call{Kind: api.Begin}, other)
 		for _, key := range []string{"c", "d"} { // another one takes the falling one's intents off, and puts on its own
 			p := writer(3, key, false)
-			for !p.Step(s, 1) {
+			if !turns.Till(func() bool { return p.Step(s, 1) }) {
+				t.Fatal("it does not end")
 			}
 			if e := p.Answer().Err; e != api.OK {
 				t.Fatal(e)
@@ -403,9 +406,9 @@ func TestFind(t *testing.T) {
 			h, has := s.Tree.Find(key)
 			f, alone := ends.NewFind(mode, key), crab.New(mode, key)
 			l := latch.New()
-			for !alone.Step(s.Tree, l, 1) {
-				if f.Step(s, 1) {
-					t.Fatal("done too early")
+			for n := 0; !alone.Step(s.Tree, l, 1); n++ {
+				if f.Step(s, 1) || n > 9 {
+					t.Fatal("done too early, or never")
 				}
 				if _, is := f.Anchor(); is || !slices.Equal(s.Latches.Held(1), l.Held(1)) {
 					t.Fatal("on its way down:", s.Latches.Held(1))
@@ -528,7 +531,8 @@ func TestRemoveOfAnother(t *testing.T) {
 	n.Rows[0] = k
 	s.Tree.Set(1, n)
 	s.Latches.Drop(node(1), 9)
-	for !r.Step(s, 1) {
+	if !turns.Till(func() bool { return r.Step(s, 1) }) {
+		t.Fatal("it does not end")
 	}
 	if s.Anchors.Is(k) || !s.Anchors.Is(h) || len(s.Tree.Keys()) != 0 {
 		t.Error("the wrong anchor is given back")
@@ -563,7 +567,8 @@ func TestWalk(t *testing.T) {
 				n := run(t, s, 1, w)
 				key, anchor, is := w.At()
 				c, l := crab.New(fork.Look, next), latch.New()
-				for !c.Step(s.Tree, l, 1) {
+				if !turns.Till(func() bool { return c.Step(s.Tree, l, 1) }) {
+					t.Fatal("it does not end")
 				}
 				_, _, here := c.Least(s.Tree)
 				fence, fenced := c.Fence()

@@ -109,12 +109,8 @@ func TestAmongOthers(t *testing.T) {
 				out = ends.NewRemove(turns.Key(r.Intn))
 			}
 		}
-		for !out.Step(d.Shop, 9) {
-			for k := range d.Tasks {
-				if d.Under(k) {
-					d.Step(k)
-				}
-			}
+		if !turns.Till(func() bool { d.Round(); return out.Step(d.Shop, 9) }) {
+			t.Fatal("it does not end")
 		}
 		d.Finish()
 		d.Answers()

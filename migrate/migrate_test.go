@@ -201,10 +201,9 @@ func TestAlone(t *testing.T) {
 		used, keys, anchors := d.Slots(), fmt.Sprint(d.Shop.Tree.Keys()), d.Shop.Anchors.Used()
 		table := fmt.Sprint(d.Shop.Table.Keys(), d.Shop.Table.Dead(), d.Shop.Table.Clock(), d.Shop.Table.Floor())
 		d.Invoke(0, api.Call{Kind: api.Migrate, Engine: 3 - home})
-		for !d.Step(0) {
-			if n := d.Slots(); n > used+d.Shop.C.Depth+1 {
-				t.Fatalf("%d slots, ahead of it %d", n, used)
-			}
+		most := 0
+		if !turns.Till(func() bool { most = max(most, d.Slots()); return d.Step(0) }) || most > used+d.Shop.C.Depth+1 {
+			t.Fatalf("%d slots, ahead of it %d; or it does not end", most, used)
 		}
 		all, now := rows(d)
 		for key := range kept {

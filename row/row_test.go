@@ -11,6 +11,7 @@ import (
 	"ferryman/keep"
 	"ferryman/latch"
 	"ferryman/row"
+	"ferryman/turns"
 	"ferryman/view"
 )
 
@@ -900,7 +901,8 @@ func TestApart(t *testing.T) {
 			t.Fatal("what is done to the one is seen by the other")
 		}
 		c := row.NewCollect(b)
-		for !c.Step(k) {
+		if !turns.Till(func() bool { return c.Step(k) }) {
+			t.Fatal("it does not end")
 		}
 		c.Row().Versions[0].Value, c.Row().Slots[0] = "changed", 99
 		if c.Row().Versions[0] != v(3, "v") || c.Row().Slots[0] == 99 {
@@ -924,7 +926,8 @@ func TestApart(t *testing.T) {
 	run(t, s, row.Put(r, v(1, "x"), false))
 	e := row.NewSee(a, 9, 0, busy)
 	busy.Busy[0] = 5
-	for !e.Step(s) {
+	if !turns.Till(func() bool { return e.Step(s) }) {
+		t.Fatal("it does not end")
 	}
 	if got, is := e.Seen(); is {
 		t.Error("what was handed in is kept:", got)
@@ -960,9 +963,11 @@ func TestNil(t *testing.T) {
 		t.Error("of a nil shop")
 	}
 	run(t, shop, p)
-	for !c.Step(shop) {
+	if !turns.Till(func() bool { return c.Step(shop) }) {
+		t.Fatal("it does not end")
 	}
-	for !e.Step(shop) {
+	if !turns.Till(func() bool { return e.Step(shop) }) {
+		t.Fatal("it does not end")
 	}
 	if x, is := e.Seen(); len(c.Row().Slots) != 1 || x != v(1, "a") || !is {
 		t.Error("behind a nil shop:", c.Row(), x, is)

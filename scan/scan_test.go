@@ -100,7 +100,7 @@ func TestAmongOthers(t *testing.T) {
 	for seed := range 80 {
 		r := rand.New(rand.NewSource(int64(seed)))
 		d := newTurns(t, config(), uint8(1+seed%2))
-		var out *ends.Remove
+		out := ends.NewRemove("a")
 		for range 2500 {
 			if k := r.Intn(4); !d.Under(k) {
 				d.Invoke(k, some(d, r, k))
@@ -115,18 +115,12 @@ func TestAmongOthers(t *testing.T) {
 					d.Vacuum()
 				}
 			}
-			if out == nil {
+			if out.Step(d.Shop, 7) {
 				out = ends.NewRemove(letters[r.Intn(15)])
-			} else if out.Step(d.Shop, 7) {
-				out = nil
 			}
 		}
-		for out != nil && !out.Step(d.Shop, 7) {
-			for k := range d.Tasks {
-				if d.Under(k) {
-					d.Step(k)
-				}
-			}
+		if !turns.Till(func() bool { d.Round(); return out.Step(d.Shop, 7) }) {
+			t.Fatal("it does not end")
 		}
 		d.Finish()
 		d.Answers()
@@ -230,7 +224,8 @@ func TestApart(t *testing.T) {
 		d.Do(0, api.Call{Kind: api.Put, Tx: 1, Key: key, Value: key})
 	}
 	x := scan.New(api.Call{Kind: api.Scan, Tx: 1, Limit: 128}, &d.Tasks[0].Txs)
-	for !x.Step(d.Shop, 0) {
+	if !turns.Till(func() bool { return x.Step(d.Shop, 0) }) {
+		t.Fatal("it does not end")
 	}
 	a := x.Answer()
 	if len(a.Pairs) != 5 {

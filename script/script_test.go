@@ -340,7 +340,9 @@ func TestRounds(t *testing.T) {
 				break
 			}
 			by.Run(under)
-			calm++
+			if calm++; calm > 1<<16 {
+				t.Fatal("it does not end")
+			}
 		}
 		left := make([]int, x.C.Tasks)
 		for task := range left {
@@ -369,6 +371,9 @@ func TestRounds(t *testing.T) {
 			}
 			if did {
 				finish++
+			}
+			if finish > 1<<16 {
+				t.Fatal("it does not end")
 			}
 		}
 		if finish > 1 {

@@ -63,6 +63,16 @@ func New(c api.Config, home uint8, maker Maker, fail func(what string)) *Turns {
 // Under tells whether a call of a task is under way.
 func (d *Turns) Under(task int) bool { return d.Tasks[task].Machine != nil }
 
+// Till does something again and again, till it is done; no: that takes too long.
+func Till(done func() bool) bool {
+	for range patience {
+		if done() {
+			return true
+		}
+	}
+	return false
+}
+
 // Invoke begins a task's call.
 func (d *Turns) Invoke(task int, x api.Call) {
 	d.Shop.Log.Invoke(task)
@@ -114,30 +124,30 @@ func (d *Turns) told(task int, x api.Call) string {
 // Do has a task do a call, alone; in how many steps.
 func (d *Turns) Do(task int, x api.Call) (api.Answer, int) {
 	d.Invoke(task, x)
-	for n := 1; n < patience; n++ {
-		if d.Step(task) {
-			return d.Tasks[task].Mark.Answer, n
-		}
+	n := 0
+	if !Till(func() bool { n++; return d.Step(task) }) {
+		d.fail(d.told(task, x) + ": it does not end")
 	}
-	d.fail(d.told(task, x) + ": it does not end")
-	return api.Answer{}, 0
+	return d.Tasks[task].Mark.Answer, n
 }
 
 // Finish gives all tasks turns, till none has a call under way.
 func (d *Turns) Finish() {
-	for range patience {
-		under := false
-		for task := range d.Tasks {
-			if d.Under(task) {
-				under = true
-				d.Step(task)
-			}
-		}
-		if !under {
-			return
+	if !Till(func() bool { return !d.Round() }) {
+		d.fail("they do not end")
+	}
+}
+
+// Round gives all tasks a turn; whether any has a call under way.
+func (d *Turns) Round() bool {
+	under := false
+	for task := range d.Tasks {
+		if d.Under(task) {
+			under = true
+			d.Step(task)
 		}
 	}
-	d.fail("they do not end")
+	return under
 }
 
 // Active tells whether a task's last transaction is active, and its number.
@@ -163,7 +173,8 @@ func (d *Turns) AtOnce(key string, ferried bool) {
 		return
 	}
 	c := row.NewCollect(h)
-	for !c.Step(s) {
+	if !Till(func() bool { return c.Step(s) }) {
+		d.fail("a row goes on and on")
 	}
 	found := c.Row()
 	intents, keep := s.Table.Sort(found.Versions)
@@ -171,7 +182,8 @@ func (d *Turns) AtOnce(key string, ferried bool) {
 	if ferried {
 		p = row.Move(found, intents+keep, 3-found.Engine)
 	}
-	for !p.Step(s) {
+	if !Till(func() bool { return p.Step(s) }) {
+		d.fail("a plan goes on and on")
 	}
 	s.Latches.Drop(name, nobody)
 }
